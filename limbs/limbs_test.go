@@ -123,7 +123,7 @@ func TestLen(t *testing.T) {
 
 // counts are shifts and places that may come in, with those that no number has.
 func counts() []int {
-	l := []int{math.MinInt, math.MinInt64 + 1, math.MinInt32, -256, -255, -65, -64, -63, -1, 257, 319, 320, 321, 511, 512, 1 << 16, math.MaxInt32, math.MaxInt64 - 1, math.MaxInt}
+	l := []int{math.MinInt, math.MinInt + 1, math.MinInt32, -256, -255, -65, -64, -63, -1, 257, 319, 320, 321, 511, 512, 1 << 16, math.MaxInt32, math.MaxInt - 1, math.MaxInt}
 	for i := range 257 {
 		l = append(l, i)
 	}
