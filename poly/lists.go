@@ -5,19 +5,31 @@ import (
 	"causeway/field"
 )
 
-// checked answers the first error, list by list: ErrDegree if it has more than MaxDegree elements, ErrElement if one of them is not below r. An element that stands alone is handed in as a list of one.
+// checked answers ErrDegree if one of the lists has more than MaxDegree elements; else ErrElement if an element of one is not below r. An element that stands alone is handed in as a list of one.
+//
+// All lengths go ahead of all elements: a list that is too long is told also behind one with an element that may not be.
 func checked(lists ...[]api.Fe) api.Errno {
 	for _, l := range lists {
 		if len(l) > api.MaxDegree {
 			return api.ErrDegree
 		}
-		for _, a := range l {
-			if field.Check(api.FieldR, a) != api.OK {
-				return api.ErrElement
-			}
+	}
+	for _, l := range lists {
+		if !allBelow(l) {
+			return api.ErrElement
 		}
 	}
 	return api.OK
+}
+
+// allBelow: are all elements below r?
+func allBelow(l []api.Fe) bool {
+	for _, a := range l {
+		if field.Check(api.FieldR, a) != api.OK {
+			return false
+		}
+	}
+	return true
 }
 
 // byPlace answers a list of so many elements: what of answers of each place, asked from the first one on.

@@ -52,7 +52,7 @@ func (c asked) good() ([][]api.Fe, []api.Fe) {
 	return l[:c.lists], list(9)[:c.others]
 }
 
-// TestTooLong: P7.1, ErrDegree of each list, also of zeros alone, ahead of its elements and of all behind it.
+// TestTooLong: P7.1, ErrDegree of each list, also of zeros alone, ahead of the elements of all lists, those ahead of it too, and of the others.
 func TestTooLong(t *testing.T) {
 	long := make([]api.Fe, api.MaxDegree+1)
 	bad := append(make([]api.Fe, api.MaxDegree), above()[0])
@@ -66,8 +66,14 @@ func TestTooLong(t *testing.T) {
 					x[j] = above()[0]
 				}
 				c.mustRefuse(t, l, x, api.ErrDegree)
-				for j := i + 1; j < c.lists; j++ {
-					l[j] = above()
+				for j := range l {
+					if j != i {
+						l[j] = above()
+					}
+				}
+				c.mustRefuse(t, l, x, api.ErrDegree)
+				for j := range l {
+					l[j] = bad
 				}
 				c.mustRefuse(t, l, x, api.ErrDegree)
 			}
@@ -106,21 +112,29 @@ func TestElements(t *testing.T) {
 	}
 }
 
-// TestListByList: P7.1, the first list's errors, both, go ahead of the second one's.
-func TestListByList(t *testing.T) {
-	long := make([]api.Fe, api.MaxDegree+1)
+// TestLengthsAhead: P7.1 with P4, of two lists the length of either goes ahead of the elements of either, and these ahead of the product's degree.
+func TestLengthsAhead(t *testing.T) {
+	most, long := make([]api.Fe, api.MaxDegree), make([]api.Fe, api.MaxDegree+1)
 	for _, c := range calls() {
 		if c.lists < 2 {
 			continue
 		}
-		c.mustRefuse(t, [][]api.Fe{above(), long}, nil, api.ErrElement)
-		c.mustRefuse(t, [][]api.Fe{long, above()}, nil, api.ErrDegree)
+		for _, bad := range above() {
+			l := []api.Fe{bad}
+			c.mustRefuse(t, [][]api.Fe{l, long}, nil, api.ErrDegree)
+			c.mustRefuse(t, [][]api.Fe{long, l}, nil, api.ErrDegree)
+			c.mustRefuse(t, [][]api.Fe{l, most}, nil, api.ErrElement)
+			c.mustRefuse(t, [][]api.Fe{most, l}, nil, api.ErrElement)
+		}
 		c.mustRefuse(t, [][]api.Fe{nil, long}, nil, api.ErrDegree)
+		c.mustRefuse(t, [][]api.Fe{long, nil}, nil, api.ErrDegree)
 		c.mustRefuse(t, [][]api.Fe{nil, above()}, nil, api.ErrElement)
+		c.mustRefuse(t, [][]api.Fe{above(), nil}, nil, api.ErrElement)
 	}
-	// Of Mul the lists' errors go ahead of the product's.
 	last := monomial(api.MaxDegree - 1)
-	if got, e := poly.Mul(last, above()); got != nil || e != api.ErrElement {
-		t.Error("Mul", got, e)
+	for _, l := range [][][]api.Fe{{last, above()}, {above(), last}} {
+		if got, e := poly.Mul(l[0], l[1]); got != nil || e != api.ErrElement {
+			t.Error("Mul", got, e)
+		}
 	}
 }
